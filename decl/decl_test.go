@@ -712,6 +712,50 @@ func TestP9_4Same(t *testing.T) {
 	}
 }
 
+// TestP9_4NoKind: a kind that is none gives no meaning to Type, Value, Params
+// and Ctors, whatever stands there; the three kinds that there are do look at
+// their Type.
+func TestP9_4NoKind(t *testing.T) {
+	great := chainOf(2001, prop)
+	kids := make([]api.Term, 2)
+	kids[0], kids[1] = node(api.TApp, kids...), node(api.TApp, kids...)
+	kids[0].Kids, kids[1].Kids = kids, kids
+	rest := []api.Decl{{}, {Type: prop}, {Type: vari(0)}, {Type: great}, {Type: kids[0]}, {Type: prop, Value: great}, {Params: -1}, {Params: 9, Ctors: ctors(9)}, {Type: great, Value: kids[0], Params: math.MinInt, Ctors: []api.Ctor{{Name: "A", Type: great}}}}
+	plain := func(kind int, name string, vars int) api.Decl { return api.Decl{Kind: kind, Name: name, Vars: vars} }
+	none := []int{0, -1, 4, 257, math.MinInt, math.MaxInt}
+	for i, kind := range none {
+		for _, name := range []string{"", "a", "A b"} {
+			for j, d := range rest {
+				d.Kind, d.Name, d.Vars = kind, name, -7
+				for k, x := range rest {
+					x.Kind, x.Name, x.Vars = kind, name, -7
+					if !Same(d, x) {
+						t.Errorf("kind %d, name %q: %d and %d are not the same", kind, name, j, k)
+					}
+				}
+				for k, x := range []api.Decl{plain(none[(i+1)%len(none)], name, -7), plain(api.DAxiom, name, -7), plain(kind, name+"x", -7), plain(kind, name, -6)} {
+					if Same(d, x) || Same(x, d) {
+						t.Errorf("kind %d, name %q: %d is the same as other %d", kind, name, j, k)
+					}
+				}
+			}
+		}
+	}
+	for kind := api.DAxiom; kind <= api.DInd; kind++ {
+		d := api.Decl{Kind: kind, Name: "a", Type: prop, Value: prop}
+		for i, x := range []api.Term{vari(0), {}, great, kids[0]} {
+			other := d
+			other.Type = x
+			if Same(d, other) || Same(other, d) {
+				t.Errorf("kind %d: Type %d is not looked at", kind, i)
+			}
+		}
+		if d.Type = great; Same(d, d) {
+			t.Errorf("kind %d: a Type that is too great is the same as itself", kind)
+		}
+	}
+}
+
 // TestP9_5Back: Decode of Encode, level by level; cut off anywhere it is
 // ErrShort.
 func TestP9_5Back(t *testing.T) {
